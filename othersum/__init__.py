@@ -1,0 +1,1 @@
+"""Othersum: shares that turn when parts are put together."""

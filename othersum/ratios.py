@@ -1,0 +1,43 @@
+"""Ratios: fractions in lowest terms, as tuples (top, bottom) with bottom from 1 on."""
+
+from othersum.errors import NoRatio
+
+
+def greatest_divisor(one, other):
+    while other != 0:
+        rest = one % other
+        one = other
+        other = rest
+    return abs(one)
+
+
+def ratio_of(top, bottom):
+    if bottom == 0:
+        raise NoRatio("a ratio has no bottom 0")
+    divisor = greatest_divisor(top, bottom)
+    # The sign of a ratio stands in its top alone.
+    if bottom < 0:
+        divisor = -divisor
+    return (top // divisor, bottom // divisor)
+
+
+def plus(one, other):
+    return ratio_of(one[0] * other[1] + other[0] * one[1], one[1] * other[1])
+
+
+def minus(one, other):
+    return ratio_of(one[0] * other[1] - other[0] * one[1], one[1] * other[1])
+
+
+def times(one, other):
+    return ratio_of(one[0] * other[0], one[1] * other[1])
+
+
+# Nought as the second gives a bottom 0, which ratio_of refuses.
+def over(one, other):
+    return ratio_of(one[0] * other[1], one[1] * other[0])
+
+
+# Both bottoms are above 0, so multiplying by them keeps the order.
+def less(one, other):
+    return one[0] * other[1] < other[0] * one[1]
