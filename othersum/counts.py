@@ -8,6 +8,10 @@ def is_whole(thing):
     return isinstance(thing, int) and not isinstance(thing, bool)
 
 
+def is_within(thing, least, most):
+    return is_whole(thing) and least <= thing <= most
+
+
 def is_count(thing):
     if not isinstance(thing, tuple) or len(thing) != 2:
         return False
@@ -20,6 +24,11 @@ def together(counts):
     tried = sum([count[0] for count in counts])
     well = sum([count[1] for count in counts])
     return (tried, well)
+
+
+# many is told beside the rows, as there may be none of them.
+def together_by_house(many, rows):
+    return tuple([together([row[house] for row in rows]) for house in range(many)])
 
 
 def share_of(count):

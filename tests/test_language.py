@@ -5,6 +5,7 @@ from language import PACKAGE, faults
 
 TOP = os.path.dirname(os.path.dirname(os.path.abspath(__file__)))
 FOLDER = os.path.join(TOP, PACKAGE)
+MODULES = """__init__ errors ratios counts books parts houses turnings""".split()
 
 # What each rule rules out, so that the look at the package is known to see it.
 WRONG = [
@@ -148,8 +149,8 @@ class ThePackage(unittest.TestCase):
 
     def test_its_modules_are_there(self):
         names = package_files()
-        for name in ("__init__.py", "errors.py", "ratios.py", "counts.py"):
-            self.assertIn(name, names)
+        for module in MODULES:
+            self.assertIn(module + ".py", names)
 
 
 if __name__ == "__main__":
