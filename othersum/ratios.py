@@ -41,3 +41,13 @@ def over(one, other):
 # Both bottoms are above 0, so multiplying by them keeps the order.
 def less(one, other):
     return one[0] * other[1] < other[0] * one[1]
+
+
+# Halves are put together, as a sum of many ratios one by one would seek divisors of its full length each time.
+def total(ratios):
+    if len(ratios) == 0:
+        return (0, 1)
+    if len(ratios) == 1:
+        return ratios[0]
+    half = len(ratios) // 2
+    return plus(total(ratios[:half]), total(ratios[half:]))

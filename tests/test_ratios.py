@@ -3,7 +3,7 @@ from fractions import Fraction
 from math import gcd
 
 from othersum.errors import NoRatio
-from othersum.ratios import less, minus, over, plus, ratio_of, times
+from othersum.ratios import less, minus, over, plus, ratio_of, times, total
 
 GREAT = 10 ** 30 - 1
 PRIME = 10 ** 29 + 319
@@ -106,6 +106,13 @@ class Reckoning(RatioCase):
                 self.assertEqual(plus(minus(one, other), other), one)
                 if other[0] != 0:
                     self.assertEqual(times(over(one, other), other), one)
+
+    def test_total(self):
+        self.assertEqual(total([]), (0, 1))
+        for length in range(1, len(SOME) + 1):
+            ratios = SOME[:length]
+            self.assert_ratio(total(ratios), sum(map(fraction, ratios)))
+            self.assertEqual(ratios, SOME[:length])
 
     def test_over_nought(self):
         for one in SOME:
