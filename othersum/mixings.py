@@ -3,7 +3,7 @@
 from othersum.counts import share_of
 from othersum.errors import NoShare
 from othersum.houses import check_house, houses_of
-from othersum.ratios import less, ratio_of
+from othersum.ratios import less, minus, ratio_of
 from othersum.turnings import sums_of
 
 
@@ -30,6 +30,10 @@ def whole_count(table, house):
     if count[0] == 0:
         raise NoShare(None, house)
     return count
+
+
+def whole_gap(table, a, b):
+    return minus(share_of(whole_count(table, a)), share_of(whole_count(table, b)))
 
 
 def shares_in(table, house):

@@ -3,7 +3,7 @@
 from othersum.counts import is_within, share_of
 from othersum.errors import NoShare, NoTable, NoWeights
 from othersum.houses import check_house, check_pair, houses_of
-from othersum.mixings import ends_of, weights_of, whole_count
+from othersum.mixings import ends_of, weights_of, whole_gap
 from othersum.ratios import less, minus, over, plus, times, total
 
 
@@ -34,8 +34,8 @@ def push(table, a, b):
     others = ends_of(table, b)
     if not less(ends[0], others[2]):
         return ("never", ends[1], others[3])
-    lead = minus(share_of(whole_count(table, a)), share_of(whole_count(table, b)))
-    return ("can", ends[1], others[3], push_to_level(lead, minus(others[2], ends[0])))
+    t = push_to_level(whole_gap(table, a, b), minus(others[2], ends[0]))
+    return ("can", ends[1], others[3], t)
 
 
 # At t the lead is 1 - t times what it was, less t times how far the greatest share of b is above the least of a.

@@ -51,3 +51,20 @@ def total(ratios):
         return ratios[0]
     half = len(ratios) // 2
     return plus(total(ratios[:half]), total(ratios[half:]))
+
+
+def lesser(one, other):
+    return other if less(other, one) else one
+
+
+# The least number that, times each of the ratios, is a whole number.
+def common_bottom(ratios):
+    bottom = 1
+    for ratio in ratios:
+        bottom = bottom * (ratio[1] // greatest_divisor(bottom, ratio[1]))
+    return bottom
+
+
+# bottom is one that the ratio's own bottom divides.
+def top_over(ratio, bottom):
+    return ratio[0] * (bottom // ratio[1])

@@ -6,6 +6,7 @@ from fractions import Fraction
 from itertools import permutations, product
 
 from othersum.books import beside, book_of
+from othersum.errors import NoHouse, NoShare
 
 GREAT = 10 ** 30 - 1
 
@@ -53,6 +54,36 @@ def some_tables(seed, many=60, houses=None, most=12, untried=True):
             table = [tuple((count[0] + 1, count[1]) for count in part) for part in table]
         told.append(table)
     return told
+
+
+def even_tables(seed, many=60, houses=None, most=12):
+    """Tables in each part of which all houses were tried or none was, and all were tried somewhere."""
+    chance = random.Random(seed)
+    told = []
+    for table in some_tables(seed, many, houses, most, untried=False):
+        width = len(table[0])
+        rows = [((0, 0),) * width if chance.random() < 0.2 else part for part in table[1:]]
+        told.append(table[:1] + rows if chance.random() < 0.5 else rows + table[:1])
+    return told
+
+
+def assert_refused_as_leads(case, call):
+    """call(table, a, b) refuses NoHouse, then houses tried in no part, a ahead of b, then parts of just one."""
+    assert_no_pair(case, NoHouse, call, TURNED, 2)
+    assert_no_pair(case, NoHouse, call, [((0, 0), (0, 0), (1, 1))], 3)
+    table = [((4, 1), (0, 0), (0, 0), (1, 1)), ((0, 0), (0, 0), (0, 0), (2, 1)), ((3, 3), (0, 0), (0, 0), (0, 0))]
+    for a, b, part, house in ((0, 1, None, 1), (1, 0, None, 1), (1, 2, None, 1), (2, 1, None, 2), (3, 2, None, 2),
+                              (0, 3, 1, 0), (3, 0, 1, 0)):
+        assert_no_share(case, part, house, call, table, a, b)
+    assert_no_share(case, 1, 3, call, [table[0], table[2], table[1]], 0, 3)
+    assert_no_share(case, 1, 3, call, [table[0], table[2], table[1]], 3, 0)
+    assert_no_share(case, 1, 0, call, [((0, 0), (0, 0)), ((0, 0), (1, 1)), ((2, 1), (2, 1))], 0, 1)
+
+
+def assert_no_share(case, part, house, call, *handed):
+    with case.assertRaises(NoShare) as caught:
+        call(*handed)
+    case.assertEqual((caught.exception.part, caught.exception.house), (part, house))
 
 
 def some_rows(chance, many, marks, length, most=12):
