@@ -2,7 +2,7 @@
 
 from othersum.counts import said
 from othersum.errors import NoLead
-from othersum.turnings import says
+from othersum.houses import check_pair, houses_of
 
 
 def fewest(one, other):
@@ -13,9 +13,9 @@ def fewest_below(one, other):
     return fewest_changes(one, other, lead_of(one, other) + 1)
 
 
+# A part that doesn't say 1 is refused by fewest.
 def weakest(table, a, b):
-    if any([number != 1 for number in says(table, a, b)]):
-        raise NoLead("a part that doesn't say 1")
+    check_pair(houses_of(table), a, b)
     told = [fewest(part[a], part[b]) for part in table]
     sums = [sum(changes) for changes in told]
     part = sums.index(min(sums))
@@ -30,24 +30,15 @@ def lead_of(one, other):
 
 
 # A well of one told as an ill takes the tried of other off the lead, an ill of other told as a well the tried of one.
-# The greater of both goes first; of as few changes the greatest p is then told.
+# Of the sort that takes more there are always enough to take off the whole lead, and any change behind them takes off
+# the 1 more that below asks for: so it is as few as if all were of that sort. What is taken off too much is room for p.
 def fewest_changes(one, other, due):
-    ills = other[0] - other[1]
-    if other[0] >= one[0]:
-        many = steps(due, other[0], one[1], one[0])
-        p = min(many, one[1])
-    else:
-        many = steps(due, one[0], ills, other[0])
+    many = over_up(due, max(one[0], other[0]))
+    p = min(many, one[1])
+    if one[0] > other[0]:
         spare = many * one[0] - due
-        p = min(many, one[1], spare // (one[0] - other[0]))
+        p = min(p, spare // (one[0] - other[0]))
     return (p, many - p)
-
-
-# The fewest steps that come to due, where at most so many of the greater kind can be made.
-def steps(due, great, most, small):
-    if due <= great * most:
-        return over_up(due, great)
-    return most + over_up(due - great * most, small)
 
 
 def over_up(top, bottom):

@@ -36,7 +36,7 @@ def level(table, a, b):
     bar = levels(table, a, b)[place][0]
     rest = over(minus(due, corners[place][1]), minus(ends[2], bar))
     least = plus(corners[place][0], rest)
-    weights = weights_below(table, a, b, bar, rest)
+    weights = weights_left(table, a, b, bar, rest)
     weights[ends[3]] = plus(weights[ends[3]], least)
     return ("can", least, weights, bar)
 
@@ -57,7 +57,7 @@ def rising(shares):
 
 
 # The weights of a without those where the share of b is below the bar, and without the rest where it is at it.
-def weights_below(table, a, b, bar, rest):
+def weights_left(table, a, b, bar, rest):
     told = []
     for weight, share in zip(weights_of(table, a), shares_in(table, b)):
         if share is not None and less(share, bar):

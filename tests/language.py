@@ -1,7 +1,7 @@
 """Looks at the package's files for what ../shared/LANGUAGE.md rules out, as far as that can be seen.
 
 Where a rule leaves a doubt or says "best", the narrower way is asked for. What depends on what values
-are at run time (what a loop changes, what a top-level list is handed to) is not seen here.
+are at run time (what a loop changes under another name) is not seen here.
 """
 
 import ast
@@ -31,6 +31,7 @@ UNUSED_WORDS = """type typing typing_extensions enum Enum IntEnum StrEnum Flag I
 namedtuple NamedTuple TypedDict TYPE_CHECKING abstractmethod""".split()
 UNUSED_PIECES = ["dataclass", "overload", "contextmanager"]
 FILE_NAMES = ["test", "tests", "testing", "site", "conftest", "sitecustomize", "usercustomize"] + UNUSED_WORDS
+CHANGES = "append clear extend insert pop remove reverse setdefault update add discard sort".split()
 NOT_VALUES = """items keys values pop update append clear extend insert remove reverse setdefault sort args encode
 format""".split()
 
@@ -187,6 +188,9 @@ class File:
         imports = [node for node in tree.body if isinstance(node, ast.ImportFrom)]
         self.imported = [alias.asname or alias.name for node in imports for alias in node.names]
         self.classes = [node.name for node in tree.body if isinstance(node, ast.ClassDef)]
+        assigns = [node for node in tree.body if isinstance(node, ast.Assign)]
+        self.kept = [node.targets[0].id for node in assigns if isinstance(node.value, (ast.List, ast.Dict))
+                     and isinstance(node.targets[0], ast.Name)]
 
     def fault(self, rule, node, words):
         self.faults.append((rule, getattr(node, "lineno", 1), words))
@@ -265,6 +269,8 @@ class File:
             self.ask(len(node.targets) == 1, "L6", node, "more than one target")
         elif isinstance(node, (ast.For, ast.While)):
             self.ask(not node.orelse, "L6", node, "else behind a loop")
+            if isinstance(node, ast.For):
+                self.look_at_walk(node)
         elif isinstance(node, ast.Try):
             self.ask(not node.finalbody, "L6", node, "finally")
         elif isinstance(node, ast.Expr):
@@ -272,6 +278,34 @@ class File:
             self.ask(docstring or isinstance(node.value, ast.Call), "L6", node, "a value by itself")
         elif isinstance(node, ast.Raise):
             self.ask(node.exc is None or isinstance(node.exc, ast.Call), "L19", node, "an error not made on the spot")
+
+    def look_at_walk(self, node):
+        """What a loop walks isn't changed in it, as far as it goes by the same name."""
+        walked = [node.iter]
+        if called_name(node.iter) in ("enumerate", "zip", "reversed"):
+            walked = node.iter.args
+        elif isinstance(node.iter, ast.Call) and isinstance(node.iter.func, ast.Attribute):
+            walked = [node.iter.func.value]
+        names = [ast.unparse(item) for item in walked]
+        for inner in node.body:
+            for item in ast.walk(inner):
+                changed = None
+                if isinstance(item, ast.Subscript) and isinstance(item.ctx, ast.Store):
+                    changed = item.value
+                elif isinstance(item, ast.Attribute) and item.attr in CHANGES:
+                    changed = item.value
+                if changed is not None and ast.unparse(changed) in names:
+                    self.fault("L23", item, "what a loop walks is changed in it")
+
+    def look_at_top_read(self, node):
+        """A list or dict of the file's top is only read where it stands."""
+        parent = self.parents[node]
+        read = isinstance(parent, ast.Subscript) and parent.value == node and isinstance(parent.ctx, ast.Load)
+        walked = isinstance(parent, (ast.For, ast.comprehension)) and parent.iter == node
+        called = called_name(parent) in ("len", "list", "dict", "sorted", "tuple", "enumerate", "zip", "reversed")
+        got = isinstance(parent, ast.Attribute) and parent.attr in ("get", "items", "keys", "values", "index", "count")
+        right = read or walked or called or got or isinstance(parent, ast.Compare)
+        self.ask(right, "L15", node, f"{node.id} is handed on")
 
     def look_at_function(self, node):
         self.ask(node.end_lineno - node.lineno < 40, "L10", node, "more than 40 lines")
@@ -346,6 +380,8 @@ class File:
             printing = node.id == "print" and self.name == "__main__.py"
             self.ask(node.id in OWN_OF_PYTHON or printing, "L8", node, f"{node.id} isn't in the list")
             self.look_at_kept(node)
+        if node.id in self.kept:
+            self.look_at_top_read(node)
 
     def look_at_kept(self, node):
         """len and its like are called, or stand as a key, or as a class by isinstance and except."""

@@ -77,7 +77,13 @@ def assert_refused_as_leads(case, call):
         assert_no_share(case, part, house, call, table, a, b)
     assert_no_share(case, 1, 3, call, [table[0], table[2], table[1]], 0, 3)
     assert_no_share(case, 1, 3, call, [table[0], table[2], table[1]], 3, 0)
-    assert_no_share(case, 1, 0, call, [((0, 0), (0, 0)), ((0, 0), (1, 1)), ((2, 1), (2, 1))], 0, 1)
+    for count in ((1, 1), (1, 0), (GREAT, 0), (GREAT, GREAT)):
+        table = [((0, 0), (0, 0)), ((0, 0), count), ((2, 1), (2, 1))]
+        assert_no_share(case, 1, 0, call, table, 0, 1)
+        assert_no_share(case, 1, 0, call, table, 1, 0)
+        table = [((1, 0), (1, 0)), (count, (0, 0)), ((0, 0), count)]
+        assert_no_share(case, 1, 1, call, table, 0, 1)
+        assert_no_share(case, 1, 1, call, table, 1, 0)
 
 
 def assert_no_share(case, part, house, call, *handed):

@@ -61,6 +61,13 @@ WRONG = [
     ("L22", "def f(a):\n    return int(a, base=3)\n"),
     ("L23", "def f(a):\n    b = range(a)\n    return b\n"),
     ("L23", "def f(a):\n    b = a.items()\n    return b\n"),
+    ("L23", "def f(a):\n    for b in a:\n        a.append(b)\n"),
+    ("L23", "def f(a):\n    for b, c in enumerate(a):\n        a[b] = c\n"),
+    ("L23", "def f(a):\n    for b in a.items():\n        a.pop(b)\n        return b\n"),
+    ("L15", "A = [1]\n\n\ndef f(a):\n    return A\n"),
+    ("L15", "A = {1: 2}\n\n\ndef f(a):\n    a.append(A)\n"),
+    ("L15", "A = [1]\n\n\ndef f(a):\n    A.append(a)\n"),
+    ("L15", "A = [1]\n\n\ndef f(a):\n    A[0] = a\n"),
     ("L24", "def f(a):\n    b = set(a)\n    return b\n"),
     ("L25", "def f(a):\n    a.sort()\n"),
     ("L26", "class A:\n    def __init__(self):\n        self.items = 1\n"),
@@ -76,6 +83,7 @@ from othersum.errors import Wrong
 
 LIMIT = 10 ** 12
 PAIRS = [(1, 2), (-3, 4)]
+BY_NAME = {"one": (1, None)}
 
 
 class Shelf:
@@ -97,6 +105,12 @@ def walked(rows, least=0):
         found.append(f"{place}: {row!r}\\n")
     kept = [row for row in found if len(row) > least]
     return sorted(kept, key=len, reverse=True)
+
+
+def known(name):
+    if name not in BY_NAME or len(PAIRS) == 0:
+        return list(PAIRS)
+    return [BY_NAME[name], BY_NAME.get(name), [pair for pair in PAIRS]]
 
 
 def counted(rows):

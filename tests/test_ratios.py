@@ -1,9 +1,9 @@
 import unittest
 from fractions import Fraction
-from math import gcd
+from math import gcd, lcm
 
 from othersum.errors import NoRatio
-from othersum.ratios import less, minus, over, plus, ratio_of, times, total
+from othersum.ratios import common_bottom, less, minus, over, plus, ratio_of, times, top_over, total
 
 GREAT = 10 ** 30 - 1
 PRIME = 10 ** 29 + 319
@@ -113,6 +113,15 @@ class Reckoning(RatioCase):
             ratios = SOME[:length]
             self.assert_ratio(total(ratios), sum(map(fraction, ratios)))
             self.assertEqual(ratios, SOME[:length])
+
+    def test_common_bottom(self):
+        self.assertEqual(common_bottom([]), 1)
+        self.assertEqual(common_bottom([(1, 4), (5, 6), (-1, 2)]), 12)
+        for length in range(1, len(SOME)):
+            bottom = common_bottom(SOME[:length])
+            self.assertEqual(bottom, lcm(*[ratio[1] for ratio in SOME[:length]]))
+            for ratio in SOME[:length]:
+                self.assertEqual(Fraction(top_over(ratio, bottom), bottom), fraction(ratio))
 
     def test_over_nought(self):
         for one in SOME:

@@ -1,6 +1,7 @@
 import random
 import unittest
 from fractions import Fraction
+from itertools import permutations
 
 from othersum.errors import NoShare, NoWeights
 from othersum.ways import firsts
@@ -69,6 +70,19 @@ class Firsts(unittest.TestCase):
     def test_a_house_that_is_first_at_one_t_alone(self):
         table = [((4, 4), (4, 0), (4, 2)), ((4, 0), (4, 4), (4, 2))]
         self.assertEqual(firsts(table, [1, 0], [0, 1]), [((0, 1), (1, 2), [0]), ((1, 2), (1, 1), [1])])
+
+    def test_several_lines_through_one_point(self):
+        # House by house what comes well of 12 in either part: at t 1/2 all have the same share.
+        wells = [(12, 0), (0, 12), (6, 6), (9, 3), (3, 9)]
+        for order in permutations(range(5)):
+            table = [tuple((12, wells[house][part]) for house in order) for part in (0, 1)]
+            due = [((0, 1), (1, 2), [order.index(0)]), ((1, 2), (1, 1), [order.index(1)])]
+            self.assertEqual(firsts(table, [1, 0], [0, 1]), due)
+
+    def test_several_that_begin_alike(self):
+        for order in permutations(range(3)):
+            table = [tuple((4, (2, 2, 1)[house]) for house in order), tuple((4, (3, 1, 1)[house]) for house in order)]
+            self.assertEqual(firsts(table, [1, 0], [0, 1]), [((0, 1), (1, 1), [order.index(0)])])
 
     def test_a_house_that_is_first_at_an_end_alone(self):
         table = [((4, 4), (4, 4), (4, 1)), ((4, 1), (4, 0), (4, 1))]
